@@ -1,0 +1,1 @@
+"""Nightpaper: a newspaper made by night."""

@@ -1,0 +1,88 @@
+"""The interface: names, arguments, what may be left out, and the asker's own lists (point 2)."""
+
+import importlib
+import inspect
+import unittest
+
+FUNCTIONS = {
+    "words.is_name": "(thing)",
+    "words.is_hour": "(thing)",
+    "words.money_text": "(pence)",
+    "words.money_by": "(text)",
+    "marks.mark_of": "(rows)",
+    "marks.mark_text": "(mark)",
+    "marks.mark_by": "(text)",
+    "markup.plain": "(copy)",
+}
+
+# What each is asked with, by the names of its arguments, in their order.
+ASKED = {
+    "words.is_name": {"thing": "ann"},
+    "words.is_hour": {"thing": 7},
+    "words.money_text": {"pence": 295},
+    "words.money_by": {"text": "1-04-07"},
+    "marks.mark_of": {"rows": ["ann", "bob"]},
+    "marks.mark_text": {"mark": 7},
+    "marks.mark_by": {"text": "00ff"},
+    "markup.plain": {"copy": "a {up b}"},
+}
+
+
+def named(path):
+    module, name = path.split(".")
+    return getattr(importlib.import_module("nightpaper." + module), name)
+
+
+def lists_in(thing):
+    """All lists in what was told."""
+    if isinstance(thing, (list, tuple)):
+        within = [one for part in thing for one in lists_in(part)]
+        return within + [thing] if isinstance(thing, list) else within
+    return []
+
+
+def kinds_in(thing):
+    """The kinds of all that is in what was told."""
+    if isinstance(thing, (list, tuple)):
+        return {type(thing)}.union(*[kinds_in(part) for part in thing])
+    return {type(thing)}
+
+
+class Interface(unittest.TestCase):
+    def test_arguments(self):
+        for path, wanted in FUNCTIONS.items():
+            with self.subTest(path):
+                self.assertEqual(str(inspect.signature(named(path))), wanted)
+
+    def test_by_places_or_by_names_in_any_order(self):
+        self.assertEqual(set(ASKED), set(FUNCTIONS))
+        for path, asked in ASKED.items():
+            call = named(path)
+            told = call(*asked.values())
+            with self.subTest(path):
+                self.assertEqual(call(**asked), told)
+                self.assertEqual(call(**dict(reversed(asked.items()))), told)
+                for places in range(len(asked)):
+                    ahead = list(asked.values())[:places]
+                    behind = dict(reversed(list(asked.items())[places:]))
+                    self.assertEqual(call(*ahead, **behind), told)
+
+    def test_nothing_is_changed_and_told_lists_are_new(self):
+        for path, asked in ASKED.items():
+            call = named(path)
+            before = repr(asked)
+            told = call(**asked)
+            shown = repr(told)
+            self.assertEqual(repr(asked), before, path)
+            for one in lists_in(told):
+                one.append("more")
+                one.reverse()
+            self.assertEqual(repr(call(**asked)), shown, path)
+            self.assertEqual(repr(asked), before, path)
+
+    def test_told_tuples_and_lists_are_plain(self):
+        plain_kinds = {list, tuple, str, int, bool, type(None)}
+        for path, asked in ASKED.items():
+            told = named(path)(**asked)
+            if not path.startswith("blocks.") and path != "ads.ad_block":
+                self.assertLessEqual(kinds_in(told), plain_kinds, path)
