@@ -4,6 +4,8 @@ import importlib
 import inspect
 import unittest
 
+from nightpaper.blocks import Block
+
 FUNCTIONS = {
     "words.is_name": "(thing)",
     "words.is_hour": "(thing)",
@@ -13,6 +15,15 @@ FUNCTIONS = {
     "marks.mark_text": "(mark)",
     "marks.mark_by": "(text)",
     "markup.plain": "(copy)",
+    "setting.set_rows": "(text, wide, full=True, gap=0)",
+    "heads.head_rows": "(text, wide, most=2, spaced=False)",
+    "heads.first_head": "(texts, wide, most=2, spaced=False)",
+    "blocks.Block": "(rows, wide)",
+    "blocks.beside": "(left, right, rule=' | ')",
+    "blocks.above": "(upper, lower)",
+    "blocks.framed": "(block)",
+    "ads.ad_block": "(form, ad)",
+    "ads.stand_ads": "(form, ads, keep=4)",
 }
 
 # What each is asked with, by the names of its arguments, in their order.
@@ -25,6 +36,15 @@ ASKED = {
     "marks.mark_text": {"mark": 7},
     "marks.mark_by": {"text": "00ff"},
     "markup.plain": {"copy": "a {up b}"},
+    "setting.set_rows": {"text": "a b c\nd", "wide": 4, "full": False, "gap": 2},
+    "heads.head_rows": {"text": "aa bb cc", "wide": 8, "most": 3, "spaced": True},
+    "heads.first_head": {"texts": ("aaaaa", "aa bb cc"), "wide": 8, "most": 3, "spaced": True},
+    "blocks.Block": {"rows": ["a", "b"], "wide": 3},
+    "blocks.beside": {"left": Block(["a"], 1), "right": Block(["b"], 2), "rule": "#"},
+    "blocks.above": {"upper": Block(["a"], 2), "lower": Block(["b"], 2)},
+    "blocks.framed": {"block": Block(["a"], 2)},
+    "ads.ad_block": {"form": (2, 16, 20), "ad": ("ann", 2, "a\nb")},
+    "ads.stand_ads": {"form": (2, 16, 20), "ads": [("ann", 2, "a"), ("bob", 1, "b\n" * 20)], "keep": 3},
 }
 
 
