@@ -29,21 +29,38 @@ def lowest(tops, span):
     return best
 
 
-def stand_ads(form, ads, keep=4):
-    """Where the advertisements stand, and the names of the missed ones."""
+def laid_ads(form, ads, keep):
+    """The ads that lie somewhere, each (name, column, row, block), the missed ones' names, and the columns' tops."""
     deep = form[2]
     tops = [0] * form[0]
-    places = []
+    laid = []
     missed = []
     for ad in ads:
         name, span = ad[0], ad[1]
-        high = len(ad_block(form, ad))
+        block = ad_block(form, ad)
         found = lowest(tops, span)
-        if found is None or found[1] + high + keep > deep:
+        if found is None or found[1] + len(block) + keep > deep:
             missed.append(name)
             continue
         column = found[0]
-        top = found[1] + high
+        top = found[1] + len(block)
         tops[column:column + span] = [top] * span
-        places.append((name, column, deep - top, high))
-    return places, missed
+        laid.append((name, column, deep - top, block))
+    return laid, missed, tops
+
+
+def free_rows(form, ads, keep):
+    """How many rows of each column are above its top."""
+    laid, missed, tops = laid_ads(form, ads, keep)
+    return [form[2] - top for top in tops]
+
+
+def places_of(laid):
+    """The places of advertisements that lie somewhere."""
+    return [(name, column, row, len(block)) for name, column, row, block in laid]
+
+
+def stand_ads(form, ads, keep=4):
+    """Where the advertisements stand, and the names of the missed ones."""
+    laid, missed, tops = laid_ads(form, ads, keep)
+    return places_of(laid), missed

@@ -1,10 +1,13 @@
 """The interface: names, arguments, what may be left out, and the asker's own lists (point 2)."""
 
+import copy
 import importlib
 import inspect
 import unittest
 
 from nightpaper.blocks import Block
+from nightpaper.pages import Page
+from nightpaper.pieces import Piece
 
 FUNCTIONS = {
     "words.is_name": "(thing)",
@@ -24,7 +27,18 @@ FUNCTIONS = {
     "blocks.framed": "(block)",
     "ads.ad_block": "(form, ad)",
     "ads.stand_ads": "(form, ads, keep=4)",
+    "pieces.Piece": "(name, heads, body, least=2, rank=5, most=2, spaced=False)",
+    "columns.needed": "(piece, wide)",
+    "columns.column_of": "(pieces, wide, room)",
+    "pages.page_of": "(form, title, number, ads, columns, keep=4)",
+    "latenews.spare": "(form, ads, columns, stay=5, keep=4)",
+    "latenews.late_in": "(form, title, number, ads, columns, piece, stay=5, keep=4)",
 }
+
+FORM = (2, 16, 20)
+ADS = [("ann", 2, "a"), ("bob", 1, "b\n" * 20)]
+SNOW = Piece("snow", ("Snow falls",), "a\nb\nc")
+RAIN = Piece("rain", ("Rain",), "d\n" * 30, 12, 7)
 
 # What each is asked with, by the names of its arguments, in their order.
 ASKED = {
@@ -45,6 +59,20 @@ ASKED = {
     "blocks.framed": {"block": Block(["a"], 2)},
     "ads.ad_block": {"form": (2, 16, 20), "ad": ("ann", 2, "a\nb")},
     "ads.stand_ads": {"form": (2, 16, 20), "ads": [("ann", 2, "a"), ("bob", 1, "b\n" * 20)], "keep": 3},
+    "pieces.Piece": {
+        "name": "snow", "heads": ("Snow falls", "Snow"), "body": "a {up b}", "least": 3, "rank": 1, "most": 1,
+        "spaced": True,
+    },
+    "columns.needed": {"piece": RAIN, "wide": 16},
+    "columns.column_of": {"pieces": [SNOW, RAIN], "wide": 16, "room": 10},
+    "pages.page_of": {
+        "form": FORM, "title": "sun", "number": 7, "ads": ADS, "columns": [[RAIN], [SNOW, RAIN, RAIN]], "keep": 3,
+    },
+    "latenews.spare": {"form": FORM, "ads": ADS, "columns": [[RAIN], [SNOW]], "stay": 7, "keep": 3},
+    "latenews.late_in": {
+        "form": FORM, "title": "sun", "number": 7, "ads": ADS, "columns": [[RAIN], []], "piece": SNOW, "stay": 0,
+        "keep": 3,
+    },
 }
 
 
@@ -90,19 +118,18 @@ class Interface(unittest.TestCase):
     def test_nothing_is_changed_and_told_lists_are_new(self):
         for path, asked in ASKED.items():
             call = named(path)
-            before = repr(asked)
+            before = copy.deepcopy(asked)
             told = call(**asked)
-            shown = repr(told)
-            self.assertEqual(repr(asked), before, path)
+            kept = copy.deepcopy(told)
+            self.assertEqual(asked, before, path)
             for one in lists_in(told):
                 one.append("more")
                 one.reverse()
-            self.assertEqual(repr(call(**asked)), shown, path)
-            self.assertEqual(repr(asked), before, path)
+            self.assertEqual(call(**asked), kept, path)
+            self.assertEqual(asked, before, path)
 
     def test_told_tuples_and_lists_are_plain(self):
-        plain_kinds = {list, tuple, str, int, bool, type(None)}
+        told_kinds = {list, tuple, str, int, bool, type(None), Block, Piece, Page}
         for path, asked in ASKED.items():
             told = named(path)(**asked)
-            if not path.startswith("blocks.") and path != "ads.ad_block":
-                self.assertLessEqual(kinds_in(told), plain_kinds, path)
+            self.assertLessEqual(kinds_in(told), told_kinds, path)

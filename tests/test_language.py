@@ -221,3 +221,16 @@ class Classes(unittest.TestCase):
             self.assertEqual(node.decorator_list, [], f"{file} {node.name}")
             if node.name in ("__repr__", "__str__", "__len__"):
                 self.assertIsInstance(node.body[-1], ast.Return, f"{file} {node.name}")
+                for part in ast.walk(node):
+                    if isinstance(part, ast.Return):
+                        self.assertTrue(self.is_plain(node.name, part.value), f"{file} {part.lineno}")
+
+    def is_plain(self, method, told):
+        """Whether what such a method returns is written as it must be."""
+        if isinstance(told, ast.Call) and isinstance(told.func, ast.Name):
+            return told.func.id in (("len",) if method == "__len__" else ("str", "repr"))
+        if isinstance(told, ast.Constant):
+            return isinstance(told.value, int if method == "__len__" else str)
+        if isinstance(told, ast.Call) and isinstance(told.func, ast.Attribute):
+            return method != "__len__" and told.func.attr == "join" and isinstance(told.func.value, ast.Constant)
+        return method != "__len__" and isinstance(told, ast.JoinedStr)
