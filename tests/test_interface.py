@@ -6,6 +6,7 @@ import inspect
 import unittest
 
 from nightpaper.blocks import Block
+from nightpaper.bundles import Bundle
 from nightpaper.pages import Page
 from nightpaper.pieces import Piece
 
@@ -33,12 +34,29 @@ FUNCTIONS = {
     "pages.page_of": "(form, title, number, ads, columns, keep=4)",
     "latenews.spare": "(form, ads, columns, stay=5, keep=4)",
     "latenews.late_in": "(form, title, number, ads, columns, piece, stay=5, keep=4)",
+    "sheets.sheet_pages": "(pages, sheet)",
+    "sheets.kinds_of": "(edition)",
+    "sheets.lacks": "(editions, good, wants)",
+    "sheets.gathered": "(editions, good, wants)",
+    "sheets.rests": "(editions, good, wants)",
+    "presses.planned": "(presses, needs)",
+    "planlooks.plan_late": "(presses, needs, thing)",
+    "planlooks.bound": "(presses, needs, names)",
+    "planlooks.slots_of": "(presses, needs, names)",
+    "bundles.Bundle": "(town, seller, number, of, copies)",
+    "bundles.bundled": "(wants, size=50)",
 }
 
 FORM = (2, 16, 20)
 ADS = [("ann", 2, "a"), ("bob", 1, "b\n" * 20)]
 SNOW = Piece("snow", ("Snow falls",), "a\nb\nc")
 RAIN = Piece("rain", ("Rain",), "d\n" * 30, 12, 7)
+GATHERED = {
+    "editions": {"one": (1, 1, 1, 1), "two": (2, 1, 1, 1)},
+    "good": {(0, (1, 1, 1, 1)): 5, (0, (1, 2, 1, 1)): 2},
+    "wants": [("one", 3), ("two", 4)],
+}
+SHOP = {"presses": [("hoe", (3, 0, 4))], "needs": [("ann", 0, 2, 5, ("cox",)), ("bob", 0, 3, 6, ())]}
 
 # What each is asked with, by the names of its arguments, in their order.
 ASKED = {
@@ -73,6 +91,17 @@ ASKED = {
         "form": FORM, "title": "sun", "number": 7, "ads": ADS, "columns": [[RAIN], []], "piece": SNOW, "stay": 0,
         "keep": 3,
     },
+    "sheets.sheet_pages": {"pages": 8, "sheet": 1},
+    "sheets.kinds_of": {"edition": (1, 2, 3, 4)},
+    "sheets.lacks": GATHERED,
+    "sheets.gathered": GATHERED,
+    "sheets.rests": GATHERED,
+    "presses.planned": SHOP,
+    "planlooks.plan_late": {**SHOP, "thing": [("hoe", 0, "ann", 2)]},
+    "planlooks.bound": {**SHOP, "names": ("ann",)},
+    "planlooks.slots_of": {**SHOP, "names": ("bob", "ann")},
+    "bundles.Bundle": {"town": "york", "seller": "ann", "number": 1, "of": 2, "copies": 3},
+    "bundles.bundled": {"wants": [("york", "ann", 7), ("hull", "bob", 0)], "size": 3},
 }
 
 
@@ -129,7 +158,7 @@ class Interface(unittest.TestCase):
             self.assertEqual(asked, before, path)
 
     def test_told_tuples_and_lists_are_plain(self):
-        told_kinds = {list, tuple, str, int, bool, type(None), Block, Piece, Page}
+        told_kinds = {list, tuple, str, int, bool, type(None), Block, Piece, Page, Bundle}
         for path, asked in ASKED.items():
             told = named(path)(**asked)
             self.assertLessEqual(kinds_in(told), told_kinds, path)
