@@ -51,7 +51,7 @@ def gathering(editions, good, wants):
     left = {kind: good[kind] for kind in good}
     told = []
     for kinds, (name, copies) in zip(kinds_asked(editions, wants), wants):
-        many = min([copies, *[left.get(kind, 0) for kind in kinds]])
+        many = min([copies] + [left.get(kind, 0) for kind in kinds])
         for kind in kinds:
             left[kind] = left.get(kind, 0) - many
         told.append((name, many))
