@@ -7,6 +7,7 @@ import unittest
 
 from nightpaper.blocks import Block
 from nightpaper.bundles import Bundle
+from nightpaper.ledgers import Ledger
 from nightpaper.pages import Page
 from nightpaper.pieces import Piece
 
@@ -45,6 +46,30 @@ FUNCTIONS = {
     "planlooks.slots_of": "(presses, needs, names)",
     "bundles.Bundle": "(town, seller, number, of, copies)",
     "bundles.bundled": "(wants, size=50)",
+    "vans.loaded": "(route, bundles)",
+    "vans.vans": "(route, bundles, most=1000)",
+    "ledgers.Ledger": "(price=2, free=13, within=3)",
+}
+
+# The methods of the classes, each the class's own.
+METHODS = {
+    "blocks.Block": {"lines": "(self)"},
+    "pages.Page": {
+        "lines": "(self)", "places": "(self)", "missed": "(self)", "stands": "(self)", "gone": "(self)",
+        "mark": "(self)",
+    },
+    "ledgers.Ledger": {
+        "send": "(self, seller, night, copies)", "back": "(self, seller, night, told, copies)",
+        "pay": "(self, seller, pence)", "price_from": "(self, night, price)", "sellers": "(self)",
+        "account": "(self, seller)", "owes": "(self, seller)", "statement": "(self, seller)",
+    },
+}
+ASKED_BY = {
+    "blocks.Block": "__eq__ __len__ __str__ __repr__",
+    "pieces.Piece": "__eq__ __len__ __str__",
+    "pages.Page": "__eq__ __len__ __str__ __repr__",
+    "bundles.Bundle": "__eq__ __len__ __str__ __repr__",
+    "ledgers.Ledger": "__eq__ __len__ __str__",
 }
 
 FORM = (2, 16, 20)
@@ -57,6 +82,7 @@ GATHERED = {
     "wants": [("one", 3), ("two", 4)],
 }
 SHOP = {"presses": [("hoe", (3, 0, 4))], "needs": [("ann", 0, 2, 5, ("cox",)), ("bob", 0, 3, 6, ())]}
+BUNDLES = [Bundle("hull", "bob", 1, 1, 4), Bundle("york", "ann", 1, 2, 5), Bundle("york", "ann", 2, 2, 2)]
 
 # What each is asked with, by the names of its arguments, in their order.
 ASKED = {
@@ -102,6 +128,9 @@ ASKED = {
     "planlooks.slots_of": {**SHOP, "names": ("bob", "ann")},
     "bundles.Bundle": {"town": "york", "seller": "ann", "number": 1, "of": 2, "copies": 3},
     "bundles.bundled": {"wants": [("york", "ann", 7), ("hull", "bob", 0)], "size": 3},
+    "vans.loaded": {"route": ("york", "hull"), "bundles": BUNDLES},
+    "vans.vans": {"route": ("york", "hull"), "bundles": BUNDLES, "most": 7},
+    "ledgers.Ledger": {"price": 3, "free": 5, "within": 0},
 }
 
 
@@ -131,6 +160,14 @@ class Interface(unittest.TestCase):
             with self.subTest(path):
                 self.assertEqual(str(inspect.signature(named(path))), wanted)
 
+    def test_methods(self):
+        for path, methods in METHODS.items():
+            for name, wanted in methods.items():
+                with self.subTest(f"{path} {name}"):
+                    self.assertEqual(str(inspect.signature(vars(named(path))[name])), wanted)
+        for path, names in ASKED_BY.items():
+            self.assertLessEqual(set(names.split()), set(vars(named(path))), path)
+
     def test_by_places_or_by_names_in_any_order(self):
         self.assertEqual(set(ASKED), set(FUNCTIONS))
         for path, asked in ASKED.items():
@@ -158,7 +195,7 @@ class Interface(unittest.TestCase):
             self.assertEqual(asked, before, path)
 
     def test_told_tuples_and_lists_are_plain(self):
-        told_kinds = {list, tuple, str, int, bool, type(None), Block, Piece, Page, Bundle}
+        told_kinds = {list, tuple, str, int, bool, type(None), Block, Piece, Page, Bundle, Ledger}
         for path, asked in ASKED.items():
             told = named(path)(**asked)
             self.assertLessEqual(kinds_in(told), told_kinds, path)
