@@ -7,18 +7,18 @@ from nightpaper.errors import NoRoom
 from nightpaper.pages import ask_columns, made_page
 
 
-def column_spare(pieces, wide, free, stay):
-    """How many rows of its free ones a column can spare."""
-    # The pieces that need not stay are asked too: of each it must be told that one of its heads fits.
-    asked = [(piece.rank, needed(piece, wide) + 1) for piece in pieces]
-    return max(0, free - sum([rows for rank, rows in asked if rank <= stay]))
+def column_spare(asked, free, stay):
+    """How many rows of its free ones a column can spare, whose pieces ask (rank, needed rows) each."""
+    return max(0, free - sum([rows + 1 for rank, rows in asked if rank <= stay]))
 
 
 def spare(form, ads, columns, stay=5, keep=4):
     """How many rows each column can spare; refused as page_of is."""
     ask_columns(form, columns)
     free = free_rows(form, ads, keep)
-    return [column_spare(pieces, form[1], rows, stay) for pieces, rows in zip(columns, free)]
+    # The pieces that need not stay are asked too: of each it must be told that one of its heads fits.
+    asked = [[(piece.rank, needed(piece, form[1])) for piece in pieces] for pieces in columns]
+    return [column_spare(some, rows, stay) for some, rows in zip(asked, free)]
 
 
 def choices(many):
@@ -38,8 +38,10 @@ def taken_rows(spared, choice, rows):
     return taken
 
 
-def chosen(spared, rows, first):
-    """The columns that take so many rows, the first of them at least as many as first, and how many each takes."""
+def chosen(spared, head, body):
+    """The columns that take a late piece of so many rows of heading and of body, and how many each takes; NoRoom."""
+    rows = head + body
+    first = head + min(1, body)
     for choice in choices(len(spared)):
         taken = taken_rows(spared, choice, rows)
         if sum(taken) == rows and min(taken) > 0 and taken[0] >= first:
@@ -65,7 +67,7 @@ def late_in(form, title, number, ads, columns, piece, stay=5, keep=4):
     head, body = piece_rows(piece, wide)
     late = head + body
     spared = spare(form, ads, columns, stay, keep)
-    choice, taken = chosen(spared, len(late), len(head) + min(1, len(body)))
+    choice, taken = chosen(spared, len(head), len(body))
     free = free_rows(form, ads, keep)
     told = [column_of(pieces, wide, rows) for pieces, rows in zip(columns, free)]
     at = 0

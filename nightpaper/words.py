@@ -4,6 +4,7 @@ from nightpaper.errors import NoText
 
 FIGURES = "0123456789"
 POUND_FIGURES = 40
+NUMBER_FIGURES = 10
 
 
 def is_whole(thing):
@@ -26,6 +27,23 @@ def is_hour(thing):
 def is_figures(text, least, most):
     """Whether a text is of least to most figures and nothing else."""
     return least <= len(text) <= most and all([sign in FIGURES for sign in text])
+
+
+def number_text(number):
+    """All figures of a whole number from 0 on; taken by parts, for Python itself doesn't write very many at once."""
+    parts = []
+    while number >= 10 ** 64:
+        number, part = divmod(number, 10 ** 64)
+        parts.append(f"{part:064d}")
+    parts.append(f"{number}")
+    return "".join(parts[::-1])
+
+
+def number_by(text):
+    """The whole number of its figures, at most ten, no 0 ahead of others; NoText of any other text."""
+    if not is_figures(text, 1, NUMBER_FIGURES) or (text[0] == "0" and text != "0"):
+        raise NoText(0)
+    return int(text)
 
 
 def money_text(pence):

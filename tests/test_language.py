@@ -35,6 +35,8 @@ BARRED_NAMES = set(
 BARRED_NODES = (ast.Global, ast.AsyncFunctionDef, ast.AsyncFor, ast.AsyncWith, ast.Await, ast.Import, ast.Div)
 BUILTIN_KINDS = (str, int, list, dict, set, bytes, tuple)
 TAKES_A_LIST = {"any", "all", "min", "max", "sum", "sorted"}
+ITERATES = {"list", "tuple", "dict", "sorted", "sum", "any", "all", "enumerate", "zip", "min", "max", "len"}
+AT_ONCE = {"zip", "enumerate", "reversed", "range", "items", "keys", "values"}
 IS_WITH = (None, True, False)
 
 
@@ -61,6 +63,18 @@ def bound_names(tree):
         elif isinstance(statement, ast.Assign):
             names += [target.id for target in statement.targets]
     return names
+
+
+def is_plain_value(node, functions):
+    """Whether a value at module level is plain, or a list, a tuple or a dict of such and of functions above it."""
+    if isinstance(node, ast.Dict):
+        parts = [*node.keys, *node.values]
+    elif isinstance(node, (ast.List, ast.Tuple)):
+        parts = node.elts
+    else:
+        return isinstance(node, ast.Constant) or isinstance(node, ast.Name) and node.id in functions
+    tables = [part for part in parts if isinstance(part, (ast.Dict, ast.List))]
+    return not tables and all(is_plain_value(part, functions) for part in parts)
 
 
 class Files(unittest.TestCase):
@@ -99,7 +113,8 @@ class ModuleLevel(unittest.TestCase):
                 kinds = (ast.ImportFrom, ast.FunctionDef, ast.ClassDef, ast.Assign)
                 self.assertTrue(docstring or isinstance(node, kinds), f"{path.name} {node.lineno}")
                 if isinstance(node, ast.Assign):
-                    ast.literal_eval(node.value)
+                    above = {part.name for part in tree.body[:number] if isinstance(part, ast.FunctionDef)}
+                    self.assertTrue(is_plain_value(node.value, above), f"{path.name} {node.lineno}")
 
     def test_one_binding_for_each_name(self):
         for path, tree in trees():
@@ -153,6 +168,22 @@ class Expressions(unittest.TestCase):
             if isinstance(node.func, ast.Name) and node.func.id in TAKES_A_LIST:
                 for argument in node.args:
                     self.assertNotIsInstance(argument, ast.GeneratorExp, f"{file} {node.lineno}")
+
+    def test_iterated_at_once(self):
+        for path, tree in trees():
+            allowed = set()
+            for node in ast.walk(tree):
+                if isinstance(node, (ast.For, ast.comprehension)):
+                    allowed.add(node.iter)
+                if isinstance(node, ast.Call) and node.args:
+                    of_literal = isinstance(node.func, ast.Attribute) and isinstance(node.func.value, ast.Constant)
+                    if of_literal or isinstance(node.func, ast.Name) and node.func.id in ITERATES:
+                        allowed.add(node.args[0])
+            for node in ast.walk(tree):
+                if isinstance(node, ast.Call):
+                    name = node.func.attr if isinstance(node.func, ast.Attribute) else getattr(node.func, "id", "")
+                    if name in AT_ONCE:
+                        self.assertIn(node, allowed, f"{path.name} {node.lineno}")
 
     def test_handlers(self):
         own = {node.name for _file, node in nodes(ast.ClassDef)}
